@@ -493,8 +493,8 @@ func TestFilterTokens(t *testing.T) {
 	}
 }
 
-// recased writes each keyword of the list in mixed case. An atom stands for a name, not a keyword, exactly in the group after subtree or boxes.
-func recased(random *rand.Rand, list []impl.Token) []impl.Token {
+// keywordsAs writes each keyword of the list as change does. An atom stands for a name, not a keyword, exactly in the group after subtree or boxes.
+func keywordsAs(list []impl.Token, change func(word string) string) []impl.Token {
 	out := slices.Clone(list)
 	inNames := false
 	for i, t := range list {
@@ -505,10 +505,15 @@ func recased(random *rand.Rand, list []impl.Token) []impl.Token {
 			inNames = false
 		}
 		if t.Kind == impl.TkAtom && !inNames {
-			out[i].Text = mixed(random, t.Text)
+			out[i].Text = change(t.Text)
 		}
 	}
 	return out
+}
+
+// recased writes each keyword of the list in mixed case.
+func recased(random *rand.Rand, list []impl.Token) []impl.Token {
+	return keywordsAs(list, func(word string) string { return mixed(random, word) })
 }
 
 // P6: valid filters round-trip, as tokens and as a line, in whatever case their keywords are.
