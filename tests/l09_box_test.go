@@ -3,6 +3,7 @@ package tests
 import (
 	"math"
 	"math/rand"
+	"regexp"
 	"slices"
 	"strings"
 	"testing"
@@ -216,6 +217,10 @@ func TestBoxOkOfMessages(t *testing.T) {
 	checkBox(t, mailbox("inbox", 1, 999, slices.Repeat([]impl.Msg{message(1)}, 5000)...), false)
 }
 
+var namePattern = regexp.MustCompile(`^[a-z]+(/[a-z]+)*$`)
+
+func nameWant(s string) bool { return len(s) <= 12 && namePattern.MatchString(s) }
+
 // boxWant follows the document's words; it counts where the program compares neighbours.
 func boxWant(b impl.Box) bool {
 	inRange := func(n int) bool { return 1 <= n && n <= 999999999 }
@@ -229,7 +234,7 @@ func boxWant(b impl.Box) bool {
 			return false
 		}
 	}
-	return slices.Contains(goodNames, b.Name) && inRange(b.Validity) && inRange(b.Next) && len(b.Msgs) <= 6
+	return nameWant(b.Name) && inRange(b.Validity) && inRange(b.Next) && len(b.Msgs) <= 6
 }
 
 // randomBox is mostly valid: damage is one in so many.

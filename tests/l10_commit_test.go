@@ -131,7 +131,7 @@ func commitWant(m impl.Commit) bool {
 		return isZero
 	}
 	return fields != nil && 1 <= m.Validity && m.Validity <= 999999999 &&
-		fits("name", slices.Contains(goodNames, m.Name), m.Name == "") &&
+		fits("name", nameWant(m.Name), m.Name == "") &&
 		fits("uid", 1 <= m.Uid && m.Uid <= 999999998, m.Uid == 0) &&
 		fits("flags", 0 <= m.Flags && m.Flags <= 31, m.Flags == 0) &&
 		fits("text", len(m.Text) <= 40, m.Text == "")
